@@ -1,0 +1,89 @@
+// Package pane: a picture made of surfaces that lie over each other: see DOC.md.
+package pane
+
+import (
+	"pane/api"
+	"pane/pixel"
+	"pane/region"
+)
+
+// Screen is a screen with its surfaces and buffers.
+type Screen struct{}
+
+// Combine combines two regions (P3).
+func Combine(kind int, a []api.Rect, b []api.Rect) ([]api.Rect, api.Errno) {
+	if kind < api.Union || kind > api.Either {
+		return nil, api.ErrKind
+	}
+	if e := checkRects(a, b); e != api.OK {
+		return nil, e
+	}
+	return region.Combine(kind, region.Of(a), region.Of(b)).Rects(), api.OK
+}
+
+// checkRects finds what is wrong with lists of rectangles. Too many in any list comes ahead of a wrong one in any.
+func checkRects(lists ...[]api.Rect) api.Errno {
+	for _, l := range lists {
+		if len(l) > api.MaxRects {
+			return api.ErrMany
+		}
+	}
+	for _, l := range lists {
+		for _, q := range l {
+			if !region.MayBe(q) {
+				return api.ErrRect
+			}
+		}
+	}
+	return api.OK
+}
+
+// Over lays a pixel over another one (P4).
+func Over(s api.Pixel, d api.Pixel) (api.Pixel, api.Errno) {
+	if !pixel.MayBe(s) || !pixel.MayBe(d) {
+		return api.Pixel{}, api.ErrPixel
+	}
+	return pixel.Over(s, d), api.OK
+}
+
+// New gives a screen (P5).
+func New(width int, height int, buffers int) (*Screen, api.Errno) { return nil, api.OK }
+
+// Make makes a surface (P6).
+func (s *Screen) Make(parent int) (int, api.Errno) { return 0, api.OK }
+
+// Destroy takes a surface away, with all that is on it (P6).
+func (s *Screen) Destroy(id int) api.Errno { return api.OK }
+
+// Attach gives a surface a buffer, from its next Commit on (P7).
+func (s *Screen) Attach(id int, w int, h int, pixels []api.Pixel) api.Errno { return api.OK }
+
+// Offset moves a surface (P7).
+func (s *Screen) Offset(id int, x int, y int) api.Errno { return api.OK }
+
+// Clip cuts a surface, and all that is on it (P7).
+func (s *Screen) Clip(id int, r api.Rect) api.Errno { return api.OK }
+
+// Unclip lets it be whole again (P7).
+func (s *Screen) Unclip(id int) api.Errno { return api.OK }
+
+// Opaque says where a surface hides what is below it (P7).
+func (s *Screen) Opaque(id int, l []api.Rect) api.Errno { return api.OK }
+
+// Stack puts a surface directly above a sibling, or below it (P7).
+func (s *Screen) Stack(id int, sibling int, above bool) api.Errno { return api.OK }
+
+// Commit makes what was asked for be (P8).
+func (s *Screen) Commit(id int) api.Errno { return api.OK }
+
+// Views tells what can be seen, from the back to the front (P9).
+func (s *Screen) Views() []api.View { return nil }
+
+// Garbage fills a buffer with anything (P12).
+func (s *Screen) Garbage(i int, pixels []api.Pixel) api.Errno { return api.OK }
+
+// Repaint brings a buffer up to date (P11).
+func (s *Screen) Repaint(i int) (api.Painted, api.Errno) { return api.Painted{}, api.OK }
+
+// Look tells a buffer's pixels, and its age (P12).
+func (s *Screen) Look(i int) ([]api.Pixel, int, api.Errno) { return nil, 0, api.OK }

@@ -1,0 +1,24 @@
+// Package pixel: what may be a pixel, and what one laid over another one gives.
+package pixel
+
+import "pane/api"
+
+const (
+	alpha = 3   // where a pixel has it
+	full  = 255 // the alpha that lets nothing through
+)
+
+// MayBe tells whether a pixel may be.
+func MayBe(p api.Pixel) bool {
+	return max(p[0], p[1], p[2]) <= p[alpha]
+}
+
+// Over gives s over d. Both may be; so no sum leaves a byte.
+func Over(s api.Pixel, d api.Pixel) api.Pixel {
+	through := full - int(s[alpha])
+	p := s
+	for i := range p {
+		p[i] += uint8((int(d[i])*through + full/2) / full)
+	}
+	return p
+}
