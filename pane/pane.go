@@ -3,12 +3,17 @@ package pane
 
 import (
 	"pane/api"
+	"pane/grid"
 	"pane/pixel"
 	"pane/region"
+	"pane/scene"
 )
 
 // Screen is a screen with its surfaces and buffers.
-type Screen struct{}
+type Screen struct {
+	scene   *scene.Scene
+	buffers []grid.Grid[api.Pixel]
+}
 
 // Combine combines two regions (P3).
 func Combine(kind int, a []api.Rect, b []api.Rect) ([]api.Rect, api.Errno) {
@@ -21,23 +26,6 @@ func Combine(kind int, a []api.Rect, b []api.Rect) ([]api.Rect, api.Errno) {
 	return region.Combine(kind, region.Of(a), region.Of(b)).Rects(), api.OK
 }
 
-// checkRects finds what is wrong with lists of rectangles. Too many in any list comes ahead of a wrong one in any.
-func checkRects(lists ...[]api.Rect) api.Errno {
-	for _, l := range lists {
-		if len(l) > api.MaxRects {
-			return api.ErrMany
-		}
-	}
-	for _, l := range lists {
-		for _, q := range l {
-			if !region.MayBe(q) {
-				return api.ErrRect
-			}
-		}
-	}
-	return api.OK
-}
-
 // Over lays a pixel over another one (P4).
 func Over(s api.Pixel, d api.Pixel) (api.Pixel, api.Errno) {
 	if !pixel.MayBe(s) || !pixel.MayBe(d) {
@@ -47,37 +35,122 @@ func Over(s api.Pixel, d api.Pixel) (api.Pixel, api.Errno) {
 }
 
 // New gives a screen (P5).
-func New(width int, height int, buffers int) (*Screen, api.Errno) { return nil, api.OK }
+func New(width int, height int, buffers int) (*Screen, api.Errno) {
+	if !within(width, 1, api.MaxSide) || !within(height, 1, api.MaxSide) {
+		return nil, api.ErrSize
+	}
+	if !within(buffers, 1, api.MaxBuffers) {
+		return nil, api.ErrBuffer
+	}
+	s := &Screen{scene: scene.New(width, height)}
+	for range buffers {
+		s.buffers = append(s.buffers, grid.New[api.Pixel](width, height))
+	}
+	return s, api.OK
+}
 
 // Make makes a surface (P6).
-func (s *Screen) Make(parent int) (int, api.Errno) { return 0, api.OK }
+func (s *Screen) Make(parent int) (int, api.Errno) {
+	p := s.scene.Parent(parent)
+	if p == nil {
+		return 0, api.ErrSurface
+	}
+	if s.scene.Full() {
+		return 0, api.ErrFull
+	}
+	return s.scene.Make(p), api.OK
+}
 
 // Destroy takes a surface away, with all that is on it (P6).
-func (s *Screen) Destroy(id int) api.Errno { return api.OK }
+func (s *Screen) Destroy(id int) api.Errno {
+	f := s.scene.Surface(id)
+	if f == nil {
+		return api.ErrSurface
+	}
+	s.scene.Destroy(f)
+	return api.OK
+}
 
 // Attach gives a surface a buffer, from its next Commit on (P7).
-func (s *Screen) Attach(id int, w int, h int, pixels []api.Pixel) api.Errno { return api.OK }
+func (s *Screen) Attach(id int, w int, h int, pixels []api.Pixel) api.Errno {
+	f := s.scene.Surface(id)
+	if f == nil {
+		return api.ErrSurface
+	}
+	if !within(w, 0, api.MaxSide) || !within(h, 0, api.MaxSide) {
+		return api.ErrSize
+	}
+	if len(pixels) != w*h || !allMayBe(pixels) {
+		return api.ErrPixel
+	}
+	f.Attach(grid.Of(w, h, pixels))
+	return api.OK
+}
 
 // Offset moves a surface (P7).
-func (s *Screen) Offset(id int, x int, y int) api.Errno { return api.OK }
+func (s *Screen) Offset(id int, x int, y int) api.Errno {
+	f := s.scene.Surface(id)
+	if f == nil {
+		return api.ErrSurface
+	}
+	if !within(x, -api.MaxOffset, api.MaxOffset) || !within(y, -api.MaxOffset, api.MaxOffset) {
+		return api.ErrCoord
+	}
+	f.Offset(x, y)
+	return api.OK
+}
 
 // Clip cuts a surface, and all that is on it (P7).
-func (s *Screen) Clip(id int, r api.Rect) api.Errno { return api.OK }
+func (s *Screen) Clip(id int, r api.Rect) api.Errno {
+	f := s.scene.Surface(id)
+	if f == nil {
+		return api.ErrSurface
+	}
+	if !region.MayBe(r) {
+		return api.ErrRect
+	}
+	f.Clip(r)
+	return api.OK
+}
 
 // Unclip lets it be whole again (P7).
-func (s *Screen) Unclip(id int) api.Errno { return api.OK }
+func (s *Screen) Unclip(id int) api.Errno {
+	f := s.scene.Surface(id)
+	if f == nil {
+		return api.ErrSurface
+	}
+	f.Unclip()
+	return api.OK
+}
 
 // Opaque says where a surface hides what is below it (P7).
 func (s *Screen) Opaque(id int, l []api.Rect) api.Errno { return api.OK }
 
 // Stack puts a surface directly above a sibling, or below it (P7).
-func (s *Screen) Stack(id int, sibling int, above bool) api.Errno { return api.OK }
+func (s *Screen) Stack(id int, sibling int, above bool) api.Errno {
+	f, g := s.scene.Surface(id), s.scene.Surface(sibling)
+	if f == nil || g == nil {
+		return api.ErrSurface
+	}
+	if !f.Beside(g) {
+		return api.ErrSibling
+	}
+	f.Stack(g, above)
+	return api.OK
+}
 
 // Commit makes what was asked for be (P8).
-func (s *Screen) Commit(id int) api.Errno { return api.OK }
+func (s *Screen) Commit(id int) api.Errno {
+	f := s.scene.Surface(id)
+	if f == nil {
+		return api.ErrSurface
+	}
+	f.Commit()
+	return api.OK
+}
 
 // Views tells what can be seen, from the back to the front (P9).
-func (s *Screen) Views() []api.View { return nil }
+func (s *Screen) Views() []api.View { return s.scene.Views() }
 
 // Garbage fills a buffer with anything (P12).
 func (s *Screen) Garbage(i int, pixels []api.Pixel) api.Errno { return api.OK }

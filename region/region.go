@@ -27,12 +27,6 @@ type Region struct {
 	bands []band
 }
 
-// MayBe tells whether a rectangle may be. (The ends that are not asked lie between the two that are.)
-func MayBe(q api.Rect) bool {
-	return -api.MaxFar <= q.X0 && q.X0 <= q.X1 && q.X1 <= api.MaxFar &&
-		-api.MaxFar <= q.Y0 && q.Y0 <= q.Y1 && q.Y1 <= api.MaxFar
-}
-
 // Of gives the points of all these rectangles together.
 func Of(l []api.Rect) Region {
 	var r Region
@@ -44,7 +38,7 @@ func Of(l []api.Rect) Region {
 
 // one gives the points of a rectangle.
 func one(q api.Rect) Region {
-	if q.X0 >= q.X1 || q.Y0 >= q.Y1 {
+	if !HasPoints(q) {
 		return Region{}
 	}
 	return Region{bands: []band{{top: q.Y0, bottom: q.Y1, spans: []span{{from: q.X0, to: q.X1}}}}}

@@ -109,3 +109,37 @@ func TestRectsWithoutPointsHaveNoBands(t *testing.T) {
 		}
 	}
 }
+
+func TestHasPoints(t *testing.T) {
+	for q, want := range map[api.Rect]bool{
+		rect(0, 0, 1, 1): true, rect(-5, -5, -4, 3): true,
+		rect(0, 0, 0, 1): false, rect(0, 0, 1, 0): false, rect(2, 0, 1, 5): false, rect(0, 2, 5, 1): false, {}: false,
+	} {
+		if HasPoints(q) != want {
+			t.Errorf("HasPoints(%v) is not %t", q, want)
+		}
+	}
+}
+
+func TestMeet(t *testing.T) {
+	a := rect(0, 0, 4, 4)
+	for _, c := range [][2]api.Rect{
+		{rect(1, 2, 3, 9), rect(1, 2, 3, 4)}, {rect(-1, -1, 9, 9), a}, {a, a}, {rect(-3, 1, 2, 2), rect(0, 1, 2, 2)},
+	} {
+		if p, q := Meet(a, c[0]), Meet(c[0], a); p != c[1] || q != c[1] {
+			t.Errorf("%v meets %v in %v and %v", a, c[0], p, q)
+		}
+	}
+	for _, q := range []api.Rect{rect(4, 0, 5, 4), rect(0, 4, 4, 5), rect(-2, -2, 0, 9), rect(6, 6, 7, 7), rect(2, 2, 2, 2)} {
+		none := Meet(a, q)
+		if HasPoints(none) || HasPoints(Meet(none, rect(-9, -9, 9, 9))) || HasPoints(Meet(q, none)) {
+			t.Errorf("%v meets %v in %v", a, q, none)
+		}
+	}
+}
+
+func TestMove(t *testing.T) {
+	if q := Move(rect(1, 2, 3, 4), 10, -20); q != rect(11, -18, 13, -16) {
+		t.Errorf("it is moved to %v", q)
+	}
+}

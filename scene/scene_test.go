@@ -1,0 +1,94 @@
+package scene
+
+import (
+	"slices"
+	"testing"
+
+	"pane/api"
+	"pane/grid"
+)
+
+// laid makes a surface of so many pixels, all of them never set.
+func laid(c *Scene, parent int, w, h int) *Surface {
+	f := c.Surface(c.Make(c.Parent(parent)))
+	f.Attach(grid.New[api.Pixel](w, h))
+	f.Commit()
+	return f
+}
+
+func TestParentAndSurface(t *testing.T) {
+	c := New(4, 3)
+	if c.Parent(api.Top) == nil || c.Surface(api.Top) != nil {
+		t.Error("Top must be a parent, and no surface")
+	}
+	f := laid(c, api.Top, 1, 1)
+	if c.Surface(0) != f || c.Parent(0) != f || c.Surface(1) != nil || c.Parent(1) != nil || c.Parent(-2) != nil {
+		t.Error("a surface is found by its number alone")
+	}
+}
+
+func TestForgetsAllThatIsOnIt(t *testing.T) {
+	c := New(4, 3)
+	for i := range 5 {
+		laid(c, i-1, 1, 1)
+	}
+	c.Destroy(c.Surface(2))
+	if len(c.there) != 2 || len(c.Surface(1).on) != 0 || c.made != 5 {
+		t.Errorf("there are %v, %d were made", c.there, c.made)
+	}
+	c.Destroy(c.Surface(0))
+	if len(c.there) != 0 || len(c.ground.on) != 0 {
+		t.Errorf("there are %v", c.there)
+	}
+}
+
+func TestCommitKeepsNothingAsked(t *testing.T) {
+	c := New(4, 3)
+	f, g := laid(c, api.Top, 1, 1), laid(c, api.Top, 1, 1)
+	f.Stack(g, true)
+	f.Clip(api.Rect{X1: 1, Y1: 1})
+	f.Commit()
+	if f.stack != (stacking{}) || !slices.Equal(c.ground.on, []*Surface{g, f}) {
+		t.Errorf("still asked for: %v", f.stack)
+	}
+	f.Stack(g, false)
+	c.Destroy(g)
+	f.Commit()
+	if f.stack != (stacking{}) || !slices.Equal(c.ground.on, []*Surface{f}) {
+		t.Errorf("still asked for: %v", f.stack)
+	}
+}
+
+func TestBeside(t *testing.T) {
+	c := New(4, 3)
+	a, b := laid(c, api.Top, 1, 1), laid(c, api.Top, 1, 1)
+	on, over := laid(c, 0, 1, 1), laid(c, 0, 1, 1)
+	for _, p := range [][2]*Surface{{a, b}, {on, over}} {
+		if !p[0].Beside(p[1]) || !p[1].Beside(p[0]) {
+			t.Errorf("%d and %d are siblings", p[0].number, p[1].number)
+		}
+	}
+	for _, p := range [][2]*Surface{{a, a}, {on, on}, {a, on}, {on, b}} {
+		if p[0].Beside(p[1]) || p[1].Beside(p[0]) {
+			t.Errorf("%d and %d are no siblings", p[0].number, p[1].number)
+		}
+	}
+}
+
+// Twelve surfaces on each other, each as far away as may be.
+func TestSpotOfTheLast(t *testing.T) {
+	c := New(4, 3)
+	for i := range api.MaxSurfaces {
+		f := laid(c, i-1, 1, 1)
+		f.Offset(api.MaxOffset, -api.MaxOffset)
+		f.Clip(api.Rect{X0: -api.MaxFar, Y0: -api.MaxFar, X1: api.MaxFar, Y1: api.MaxFar})
+		f.Commit()
+	}
+	const far = api.MaxSurfaces * api.MaxOffset
+	if v := c.Surface(api.MaxSurfaces - 1).view(); v.X != far || v.Y != -far {
+		t.Errorf("it lies at %d, %d", v.X, v.Y)
+	}
+	if l := c.Views(); len(l) != 0 {
+		t.Errorf("seen are %v", l)
+	}
+}

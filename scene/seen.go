@@ -1,0 +1,44 @@
+package scene
+
+import (
+	"pane/api"
+	"pane/region"
+)
+
+// spot is a surface's place, and the part of the screen that its clips and those of all that it is on leave.
+type spot struct {
+	x, y int
+	open api.Rect
+}
+
+// spot starts at the ground, whose clip is the screen, and follows the surfaces up from there.
+func (f *Surface) spot() spot {
+	if f.parent == nil {
+		return spot{open: f.now.clip}
+	}
+	s := f.parent.spot()
+	s.x += f.now.x
+	s.y += f.now.y
+	if f.now.clipped {
+		s.open = region.Meet(s.open, region.Move(f.now.clip, s.x, s.y))
+	}
+	return s
+}
+
+// view tells where it lies, and what is seen of it, which may be a rectangle without points.
+func (f *Surface) view() api.View {
+	s, w, h := f.spot(), f.now.pixels.Width(), f.now.pixels.Height()
+	whole := api.Rect{X0: s.x, Y0: s.y, X1: s.x + w, Y1: s.y + h}
+	return api.View{Surface: f.number, X: s.x, Y: s.y, W: w, H: h, Seen: region.Meet(s.open, whole)}
+}
+
+// views adds to a list what is seen of the surface and, in front of it, of all that is on it.
+func (f *Surface) views(l []api.View) []api.View {
+	if v := f.view(); region.HasPoints(v.Seen) {
+		l = append(l, v)
+	}
+	for _, g := range f.on {
+		l = g.views(l)
+	}
+	return l
+}

@@ -1,0 +1,93 @@
+package scene
+
+import (
+	"slices"
+
+	"pane/api"
+	"pane/grid"
+)
+
+// Surface is one of the surfaces, with all that lie on it, from the back to the front.
+type Surface struct {
+	number int
+	parent *Surface // nil at the ground alone
+	on     []*Surface
+	now    look     // what it has
+	next   look     // what it has from its next Commit on
+	stack  stacking // where it is put at its next Commit
+}
+
+// look is what a surface has of its own.
+type look struct {
+	pixels  grid.Grid[api.Pixel] // never written into: what was asked for and what is may share it
+	x, y    int
+	clip    api.Rect
+	clipped bool
+}
+
+// stacking is next to which sibling a surface was asked to lie, if it was. The sibling is kept as its number, since
+// it may be gone at the Commit.
+type stacking struct {
+	asked   bool
+	sibling int
+	above   bool
+}
+
+// Attach asks for a buffer of these pixels.
+func (f *Surface) Attach(pixels grid.Grid[api.Pixel]) {
+	f.next.pixels = pixels
+}
+
+// Offset asks for an offset.
+func (f *Surface) Offset(x int, y int) {
+	f.next.x, f.next.y = x, y
+}
+
+// Clip asks for a clip.
+func (f *Surface) Clip(q api.Rect) {
+	f.next.clip, f.next.clipped = q, true
+}
+
+// Unclip asks for no clip.
+func (f *Surface) Unclip() {
+	f.next.clip, f.next.clipped = api.Rect{}, false
+}
+
+// Beside tells whether another surface is a sibling of this one.
+func (f *Surface) Beside(other *Surface) bool {
+	return f != other && f.parent == other.parent
+}
+
+// Stack asks to lie directly in front of a sibling, or directly behind it.
+func (f *Surface) Stack(sibling *Surface, above bool) {
+	f.stack = stacking{asked: true, sibling: sibling.number, above: above}
+}
+
+// Commit makes all that was asked for be.
+func (f *Surface) Commit() {
+	f.now = f.next
+	if f.stack.asked {
+		f.restack(f.stack.sibling, f.stack.above)
+	}
+	f.stack = stacking{}
+}
+
+// restack puts it next to a sibling, if that one is still there.
+func (f *Surface) restack(sibling int, above bool) {
+	p := f.parent
+	if p.find(sibling) < 0 {
+		return
+	}
+	at := p.find(f.number)
+	p.on = slices.Delete(p.on, at, at+1)
+	to := p.find(sibling)
+	if above {
+		to++
+	}
+	p.on = slices.Insert(p.on, to, f)
+}
+
+// find tells where the surface of that number is among those that lie directly on this one; -1 if it does not.
+func (f *Surface) find(number int) int {
+	return slices.IndexFunc(f.on, func(g *Surface) bool { return g.number == number })
+}
