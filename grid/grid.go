@@ -1,6 +1,8 @@
 // Package grid: what lies in rows and columns.
 package grid
 
+import "slices"
+
 // Grid is cells of any type, in so many rows of so many columns.
 type Grid[T any] struct {
 	width, height int
@@ -25,3 +27,12 @@ func (g Grid[T]) Width() int { return g.width }
 
 // Height tells how many rows there are.
 func (g Grid[T]) Height() int { return g.height }
+
+// At gives the cell in a column and a row that there are.
+func (g Grid[T]) At(x int, y int) T { return g.cells[y*g.width+x] }
+
+// Set writes that cell. A grid that was copied has it in common with its copies, so it is written in them too.
+func (g Grid[T]) Set(x int, y int, cell T) { g.cells[y*g.width+x] = cell }
+
+// Cells gives all cells, row by row. The list is the caller's, who may write into it.
+func (g Grid[T]) Cells() []T { return slices.Clone(g.cells) }

@@ -262,27 +262,20 @@ func TestCombineLeavesArguments(t *testing.T) {
 	}
 }
 
-// scribble writes all over a list and its spare room.
-func scribble(l []api.Rect) {
-	for i := range l[:cap(l)] {
-		l[:cap(l)][i] = rect(-1, -2, -3, -4)
-	}
-}
-
 func TestCombineGivesFreshLists(t *testing.T) {
 	a, b := rects(rect(0, 0, 2, 2)), rects(rect(1, 1, 3, 3), rect(5, 5, 6, 6))
 	for _, kind := range kinds {
 		want := wanted(kind, a, b)
 		first, _ := pane.Combine(kind, a, b)
 		second, _ := pane.Combine(kind, a, b)
-		scribble(first)
+		scribble(first, rect(-1, -2, -3, -4))
 		if !slices.Equal(second, want) {
 			t.Errorf("kind %d: writing into one answer changed another one: %v", kind, second)
 		}
 		checkCombine(t, kind, a, b, want)
 	}
 	alone, _ := pane.Combine(api.Union, a, nil)
-	scribble(alone)
-	scribble(b)
+	scribble(alone, rect(-1, -2, -3, -4))
+	scribble(b, rect(-1, -2, -3, -4))
 	checkCombine(t, api.Union, a, nil, rects(rect(0, 0, 2, 2)))
 }

@@ -10,124 +10,6 @@ import (
 	"pane/pane"
 )
 
-// thing is a surface as the document tells of it. What was asked for is kept as what is to be done, by its kind.
-type thing struct {
-	parent, w, h, x, y int
-	clip               *api.Rect
-	asked              map[string]func()
-}
-
-// model is a screen that goes about it in another way: all surfaces are in one row, from the back to the front, and
-// what is seen is asked point by point.
-type model struct {
-	w, h  int
-	there map[int]*thing
-	row   []int
-	made  int
-}
-
-// isOn tells whether a surface is another one, or is on it.
-func (m *model) isOn(id, other int) bool {
-	for ; id != api.Top; id = m.there[id].parent {
-		if id == other {
-			return true
-		}
-	}
-	return false
-}
-
-// block tells from where till where in the row a surface and all that is on it stand.
-func (m *model) block(id int) (int, int) {
-	from := slices.Index(m.row, id)
-	to := from
-	for to < len(m.row) && m.isOn(m.row[to], id) {
-		to++
-	}
-	return from, to
-}
-
-func (m *model) make(parent int) (int, api.Errno) {
-	if parent != api.Top && m.there[parent] == nil {
-		return 0, api.ErrSurface
-	}
-	if len(m.there) == api.MaxSurfaces || m.made == api.MaxMade {
-		return 0, api.ErrFull
-	}
-	to := len(m.row)
-	if parent != api.Top {
-		_, to = m.block(parent)
-	}
-	m.row = slices.Insert(m.row, to, m.made)
-	m.there[m.made] = &thing{parent: parent, asked: map[string]func(){}}
-	m.made++
-	return m.made - 1, api.OK
-}
-
-func (m *model) destroy(id int) {
-	from, to := m.block(id)
-	for _, g := range m.row[from:to] {
-		delete(m.there, g)
-	}
-	m.row = slices.Delete(m.row, from, to)
-}
-
-func (m *model) stack(id, sibling int, above bool) {
-	if m.there[sibling] == nil {
-		return
-	}
-	from, to := m.block(id)
-	moved := slices.Clone(m.row[from:to])
-	m.row = slices.Delete(m.row, from, to)
-	before, behind := m.block(sibling)
-	if above {
-		before = behind
-	}
-	m.row = slices.Insert(m.row, before, moved...)
-}
-
-func (m *model) place(id int) (int, int) {
-	if id == api.Top {
-		return 0, 0
-	}
-	x, y := m.place(m.there[id].parent)
-	return x + m.there[id].x, y + m.there[id].y
-}
-
-// sees tells whether a point of the screen is one of the surface's seen part.
-func (m *model) sees(id, x, y int) bool {
-	f := m.there[id]
-	px, py := m.place(id)
-	if x < px || x >= px+f.w || y < py || y >= py+f.h {
-		return false
-	}
-	for ; id != api.Top; id = m.there[id].parent {
-		px, py := m.place(id)
-		if c := m.there[id].clip; c != nil && !has(rects(*c), x-px, y-py) {
-			return false
-		}
-	}
-	return true
-}
-
-func (m *model) views() []api.View {
-	var l []api.View
-	for _, id := range m.row {
-		seen := rect(m.w, m.h, 0, 0)
-		for x := range m.w {
-			for y := range m.h {
-				if m.sees(id, x, y) {
-					seen = rect(min(seen.X0, x), min(seen.Y0, y), max(seen.X1, x+1), max(seen.Y1, y+1))
-				}
-			}
-		}
-		if seen.X1 > 0 {
-			x, y := m.place(id)
-			l = append(l, view(id, x, y, m.there[id].w, m.there[id].h, seen))
-		}
-	}
-	return l
-}
-
 // pair is a screen and its model, told the same by the same throws of the dice.
 type pair struct {
 	s *pane.Screen
@@ -174,24 +56,46 @@ func refusal(when ...any) api.Errno {
 	return api.OK
 }
 
-// attach tells both of a buffer; it gives what came and what was to come.
-func (p *pair) attach(id int) (api.Errno, api.Errno) {
-	f := p.m.there[id]
+// pixels draws so many that may be, of few kinds, so that many are alike.
+func (p *pair) pixels(n int) []api.Pixel {
+	kinds := []api.Pixel{{}, {1, 2, 3, 3}, {200, 0, 7, 255}, {0, 90, 100, 128}, {0, 0, 0, 255}, {254, 253, 0, 254}}
+	l := make([]api.Pixel, n)
+	for i := range l {
+		l[i] = kinds[p.r.Intn(len(kinds))]
+	}
+	return l
+}
+
+// buffer draws a size, and not always as many pixels. Often it is the surface's own buffer, with few pixels changed.
+func (p *pair) buffer(f *thing) (int, int, []api.Pixel) {
+	if f != nil && p.r.Intn(2) == 0 {
+		l := slices.Clone(f.pixels)
+		for range min(p.r.Intn(3), len(l)) {
+			l[p.r.Intn(len(l))] = p.pixels(1)[0]
+		}
+		return f.w, f.h, l
+	}
 	w, h := p.number(0, 8, api.MaxSide), p.number(0, 8, api.MaxSide)
 	n := w * h
 	if n < 0 || n > 999 || p.r.Intn(20) == 0 {
 		n = p.r.Intn(50)
 	}
-	l := filled(n, 1, api.Pixel{1, 2, 3, 3})
-	bad := n > 0 && p.r.Intn(20) == 0
+	return w, h, p.pixels(n)
+}
+
+// attach tells both of a buffer; it gives what came and what was to come.
+func (p *pair) attach(id int) (api.Errno, api.Errno) {
+	f := p.m.there[id]
+	w, h, l := p.buffer(f)
+	bad := len(l) > 0 && p.r.Intn(20) == 0
 	if bad {
-		l[p.r.Intn(n)] = api.Pixel{0, 4, 0, 3}
+		l[p.r.Intn(len(l))] = api.Pixel{0, 4, 0, 3}
 	}
-	want := refusal(f == nil, api.ErrSurface, w < 0 || w > 24 || h < 0 || h > 24, api.ErrSize, n != w*h || bad, api.ErrPixel)
+	want := refusal(f == nil, api.ErrSurface, w < 0 || w > 24 || h < 0 || h > 24, api.ErrSize, len(l) != w*h || bad, api.ErrPixel)
 	if want == api.OK {
-		f.asked["attach"] = func() { f.w, f.h = w, h }
+		f.asked["attach"] = func() { f.w, f.h, f.pixels = w, h, l }
 	}
-	return p.s.Attach(id, w, h, l), want
+	return p.s.Attach(id, w, h, slices.Clone(l)), want
 }
 
 func (p *pair) offset(id int) (api.Errno, api.Errno) {
@@ -235,14 +139,10 @@ func (p *pair) stack(id int) (api.Errno, api.Errno) {
 }
 
 func (p *pair) commit(id int) (api.Errno, api.Errno) {
-	f := p.m.there[id]
-	if f == nil {
+	if p.m.there[id] == nil {
 		return p.s.Commit(id), api.ErrSurface
 	}
-	for _, do := range f.asked {
-		do()
-	}
-	clear(f.asked)
+	p.m.commit(id)
 	return p.s.Commit(id), api.OK
 }
 
@@ -254,13 +154,77 @@ func (p *pair) destroy(id int) (api.Errno, api.Errno) {
 	return p.s.Destroy(id), api.OK
 }
 
+// index draws the number of a buffer, and sometimes of none.
+func (p *pair) index() int {
+	if p.r.Intn(20) == 0 {
+		return []int{-1, len(p.m.pages), math.MinInt, math.MaxInt}[p.r.Intn(4)]
+	}
+	return p.r.Intn(len(p.m.pages))
+}
+
+func (p *pair) garbage(t *testing.T) {
+	t.Helper()
+	i, n := p.index(), p.m.w*p.m.h
+	if p.r.Intn(4) == 0 {
+		n += p.r.Intn(3) - 1
+	}
+	l := p.pixels(n)
+	for k := range min(n, 3) {
+		l[k] = api.Pixel{255, 9, uint8(p.r.Intn(256)), 8} // what may be no pixel may be garbage
+	}
+	none := i < 0 || i >= len(p.m.pages)
+	want := refusal(none, api.ErrBuffer, n != p.m.w*p.m.h, api.ErrPixel)
+	if want == api.OK {
+		p.m.garbage(i, l)
+	}
+	if e := p.s.Garbage(i, l); e != want {
+		t.Errorf("Garbage(%d) of %d pixels = %d, want %d", i, n, e, want)
+	}
+}
+
+func (p *pair) repaint(t *testing.T) {
+	t.Helper()
+	i := p.index()
+	got, e := p.s.Repaint(i)
+	if i < 0 || i >= len(p.m.pages) {
+		if got.Region != nil || got.Blends != 0 || e != api.ErrBuffer {
+			t.Errorf("Repaint(%d) = %v, %d", i, got, e)
+		}
+		return
+	}
+	old := p.m.age(i)
+	cells, blends := p.m.repaint(i)
+	if want := wanted(api.Union, cells, nil); !slices.Equal(got.Region, want) || got.Blends != blends || e != api.OK {
+		t.Errorf("Repaint(%d) at the age of %d = %v, %d, want %v, %d", i, old, got, e, want, blends)
+	}
+}
+
+// checkBuffers asks whether all buffers are the model's, and one that has just been painted is the picture.
+func (p *pair) checkBuffers(t *testing.T) {
+	t.Helper()
+	for i, b := range p.m.pages {
+		l, age, e := p.s.Look(i)
+		if !slices.Equal(l, b.pixels) || age != p.m.age(i) || e != api.OK {
+			t.Errorf("Look(%d) = %v, %d, %d, want %v, %d", i, l, age, e, b.pixels, p.m.age(i))
+		}
+		if b.painted == 0 || b.painted != p.m.repaints || len(b.damaged) > 0 {
+			continue
+		}
+		for k, c := range p.m.points() {
+			if want, _ := p.m.picture(c); l[k] != want {
+				t.Errorf("buffer %d is %v at %v, the picture is %v", i, l[k], c, want)
+			}
+		}
+	}
+}
+
 // step does one thing to both, and tells whether they agree.
 func (p *pair) step(t *testing.T) bool {
 	t.Helper()
 	id := p.id()
 	calls := []func(int) (api.Errno, api.Errno){p.attach, p.offset, p.clip, p.unclip, p.stack, p.stack, p.commit, p.commit, p.commit, p.commit}
 	var got, want api.Errno
-	switch n := p.r.Intn(len(calls) * 10); {
+	switch n := p.r.Intn(len(calls) * 12); {
 	case n < 10:
 		parent := p.id()
 		if p.r.Intn(3) == 0 {
@@ -274,6 +238,10 @@ func (p *pair) step(t *testing.T) bool {
 		got, want = e, f
 	case n < 13:
 		got, want = p.destroy(id)
+	case n < 15:
+		p.garbage(t)
+	case n < 35:
+		p.repaint(t)
 	default:
 		got, want = calls[n%len(calls)](id)
 	}
@@ -283,14 +251,15 @@ func (p *pair) step(t *testing.T) bool {
 	if l := p.m.views(); !slices.Equal(p.s.Views(), l) {
 		t.Errorf("Views = %v, want %v", p.s.Views(), l)
 	}
+	p.checkBuffers(t)
 	return !t.Failed()
 }
 
 func TestDrawnCalls(t *testing.T) {
 	for seed := range 60 {
 		r := rand.New(rand.NewSource(int64(seed)))
-		w, h := 1+r.Intn(9), 1+r.Intn(9)
-		p := &pair{s: screen(t, w, h, 1+r.Intn(api.MaxBuffers)), m: &model{w: w, h: h, there: map[int]*thing{}}, r: r}
+		w, h, n := 1+r.Intn(9), 1+r.Intn(9), 1+r.Intn(api.MaxBuffers)
+		p := &pair{s: screen(t, w, h, n), m: newModel(w, h, n), r: r}
 		for step := range 600 {
 			if !p.step(t) {
 				t.Fatalf("seed %d, step %d", seed, step)

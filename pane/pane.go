@@ -3,6 +3,7 @@ package pane
 
 import (
 	"pane/api"
+	"pane/canvas"
 	"pane/grid"
 	"pane/pixel"
 	"pane/region"
@@ -11,8 +12,8 @@ import (
 
 // Screen is a screen with its surfaces and buffers.
 type Screen struct {
-	scene   *scene.Scene
-	buffers []grid.Grid[api.Pixel]
+	scene  *scene.Scene
+	canvas *canvas.Canvas
 }
 
 // Combine combines two regions (P3).
@@ -42,11 +43,7 @@ func New(width int, height int, buffers int) (*Screen, api.Errno) {
 	if !within(buffers, 1, api.MaxBuffers) {
 		return nil, api.ErrBuffer
 	}
-	s := &Screen{scene: scene.New(width, height)}
-	for range buffers {
-		s.buffers = append(s.buffers, grid.New[api.Pixel](width, height))
-	}
-	return s, api.OK
+	return &Screen{scene: scene.New(width, height), canvas: canvas.New(width, height, buffers)}, api.OK
 }
 
 // Make makes a surface (P6).
@@ -67,7 +64,7 @@ func (s *Screen) Destroy(id int) api.Errno {
 	if f == nil {
 		return api.ErrSurface
 	}
-	s.scene.Destroy(f)
+	s.canvas.Damage(s.scene.Destroy(f))
 	return api.OK
 }
 
@@ -145,7 +142,7 @@ func (s *Screen) Commit(id int) api.Errno {
 	if f == nil {
 		return api.ErrSurface
 	}
-	f.Commit()
+	s.canvas.Damage(f.Commit())
 	return api.OK
 }
 
@@ -153,10 +150,30 @@ func (s *Screen) Commit(id int) api.Errno {
 func (s *Screen) Views() []api.View { return s.scene.Views() }
 
 // Garbage fills a buffer with anything (P12).
-func (s *Screen) Garbage(i int, pixels []api.Pixel) api.Errno { return api.OK }
+func (s *Screen) Garbage(i int, pixels []api.Pixel) api.Errno {
+	if !s.canvas.Has(i) {
+		return api.ErrBuffer
+	}
+	if len(pixels) != s.canvas.Points() {
+		return api.ErrPixel
+	}
+	s.canvas.Fill(i, pixels)
+	return api.OK
+}
 
 // Repaint brings a buffer up to date (P11).
-func (s *Screen) Repaint(i int) (api.Painted, api.Errno) { return api.Painted{}, api.OK }
+func (s *Screen) Repaint(i int) (api.Painted, api.Errno) {
+	if !s.canvas.Has(i) {
+		return api.Painted{}, api.ErrBuffer
+	}
+	return s.canvas.Paint(i, s.scene.Picture()), api.OK
+}
 
 // Look tells a buffer's pixels, and its age (P12).
-func (s *Screen) Look(i int) ([]api.Pixel, int, api.Errno) { return nil, 0, api.OK }
+func (s *Screen) Look(i int) ([]api.Pixel, int, api.Errno) {
+	if !s.canvas.Has(i) {
+		return nil, 0, api.ErrBuffer
+	}
+	pixels, age := s.canvas.Look(i)
+	return pixels, age, api.OK
+}

@@ -45,8 +45,14 @@ func checkMake(t *testing.T, s *pane.Screen, parent, want int, e api.Errno) {
 // lay makes a surface with so many pixels, at an offset.
 func lay(t *testing.T, s *pane.Screen, parent, id, w, h, x, y int) {
 	t.Helper()
+	layOf(t, s, parent, id, w, h, x, y, grey)
+}
+
+// layOf makes a surface with so many pixels of one kind, at an offset.
+func layOf(t *testing.T, s *pane.Screen, parent, id, w, h, x, y int, p api.Pixel) {
+	t.Helper()
 	checkMake(t, s, parent, id, api.OK)
-	fine(t, "Attach", s.Attach(id, w, h, filled(w, h, grey)))
+	fine(t, "Attach", s.Attach(id, w, h, filled(w, h, p)))
 	fine(t, "Offset", s.Offset(id, x, y))
 	fine(t, "Commit", s.Commit(id))
 }

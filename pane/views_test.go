@@ -118,9 +118,7 @@ func TestViewsGivesFreshLists(t *testing.T) {
 	lay(t, s, 1, 2, 1, 1, 0, 0)
 	first, second := s.Views(), s.Views()
 	want := slices.Clone(first)
-	for i := range first[:cap(first)] {
-		first[:cap(first)][i] = view(9, 9, 9, 9, 9, rect(9, 9, 9, 9))
-	}
+	scribble(first, view(9, 9, 9, 9, 9, rect(9, 9, 9, 9)))
 	if !slices.Equal(second, want) {
 		t.Errorf("writing into one answer changed another one: %v", second)
 	}

@@ -8,6 +8,11 @@ const (
 	full  = 255 // the alpha that lets nothing through
 )
 
+// Black is what there is where no surface is.
+func Black() api.Pixel {
+	return api.Pixel{alpha: full}
+}
+
 // MayBe tells whether a pixel may be.
 func MayBe(p api.Pixel) bool {
 	return max(p[0], p[1], p[2]) <= p[alpha]

@@ -47,3 +47,9 @@ func TestMayBe(t *testing.T) {
 		}
 	}
 }
+
+func TestBlack(t *testing.T) {
+	if p := Black(); p != (api.Pixel{0, 0, 0, 255}) || !MayBe(p) {
+		t.Errorf("Black is %v", p)
+	}
+}

@@ -143,3 +143,41 @@ func TestMove(t *testing.T) {
 		t.Errorf("it is moved to %v", q)
 	}
 }
+
+func TestHas(t *testing.T) {
+	q := rect(-1, 2, 3, 4)
+	for x := -3; x < 6; x++ {
+		for y := -1; y < 7; y++ {
+			if Has(q, x, y) != (x >= -1 && x <= 2 && y >= 2 && y <= 3) {
+				t.Errorf("Has(%v, %d, %d) = %v", q, x, y, Has(q, x, y))
+			}
+		}
+	}
+	for _, none := range []api.Rect{{}, rect(0, 0, 0, 5), rect(3, 0, 1, 5)} {
+		if Has(none, 0, 0) || Has(none, 2, 2) {
+			t.Errorf("%v has a point", none)
+		}
+	}
+}
+
+func TestHull(t *testing.T) {
+	for _, c := range []struct{ p, q, want api.Rect }{
+		{rect(0, 0, 1, 1), rect(3, 4, 4, 5), rect(0, 0, 4, 5)},
+		{rect(3, 0, 4, 1), rect(0, 4, 1, 5), rect(0, 0, 4, 5)},
+		{rect(0, 0, 9, 9), rect(3, 4, 4, 5), rect(0, 0, 9, 9)},
+		{rect(-3, -2, -1, -1), rect(-2, -5, 0, 7), rect(-3, -5, 0, 7)},
+		{api.Rect{}, rect(3, 4, 4, 5), rect(3, 4, 4, 5)},
+		{rect(9, 9, 9, 12), rect(3, 4, 4, 5), rect(3, 4, 4, 5)},
+		{rect(9, 9, 5, 12), rect(-3, -4, -2, -1), rect(-3, -4, -2, -1)},
+	} {
+		if r := Hull(c.p, c.q); r != c.want {
+			t.Errorf("Hull(%v, %v) = %v, want %v", c.p, c.q, r, c.want)
+		}
+		if r := Hull(c.q, c.p); r != c.want {
+			t.Errorf("Hull(%v, %v) = %v, want %v", c.q, c.p, r, c.want)
+		}
+	}
+	if r := Hull(rect(5, 5, 5, 9), rect(1, 2, 1, 2)); HasPoints(r) {
+		t.Errorf("of no points there is %v", r)
+	}
+}

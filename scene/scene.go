@@ -48,11 +48,13 @@ func (c *Scene) Make(parent *Surface) int {
 	return f.number
 }
 
-// Destroy takes a surface away, with all that is on it.
-func (c *Scene) Destroy(f *Surface) {
+// Destroy takes a surface away, with all that is on it, and tells the damage.
+func (c *Scene) Destroy(f *Surface) []api.Rect {
+	damage := f.seenParts()
 	at := f.parent.find(f.number)
 	f.parent.on = slices.Delete(f.parent.on, at, at+1)
 	c.forget(f)
+	return damage
 }
 
 func (c *Scene) forget(f *Surface) {
@@ -64,5 +66,14 @@ func (c *Scene) forget(f *Surface) {
 
 // Views tells what is seen of the surfaces, from the back to the front.
 func (c *Scene) Views() []api.View {
-	return c.ground.views(nil)
+	var l []api.View
+	for _, each := range c.ground.layers(nil) {
+		l = append(l, each.view)
+	}
+	return l
+}
+
+// Picture gives the picture that the surfaces make, as they are now.
+func (c *Scene) Picture() Picture {
+	return Picture{layers: c.ground.layers(nil)}
 }

@@ -6,6 +6,7 @@ import (
 
 	"pane/api"
 	"pane/grid"
+	"pane/region"
 )
 
 // laid makes a surface of so many pixels, all of them never set.
@@ -90,5 +91,63 @@ func TestSpotOfTheLast(t *testing.T) {
 	}
 	if l := c.Views(); len(l) != 0 {
 		t.Errorf("seen are %v", l)
+	}
+}
+
+func checkDamage(t *testing.T, l []api.Rect, want ...api.Rect) {
+	t.Helper()
+	l = slices.DeleteFunc(slices.Clone(l), func(q api.Rect) bool { return !region.HasPoints(q) })
+	if !slices.Equal(l, want) {
+		t.Errorf("the damage is %v, want %v", l, want)
+	}
+}
+
+func TestDamage(t *testing.T) {
+	c := New(4, 3)
+	f := laid(c, api.Top, 2, 2)
+	g := laid(c, 0, 1, 1)
+	first, second := api.Rect{X1: 2, Y1: 2}, api.Rect{X1: 1, Y1: 1}
+	checkDamage(t, f.Commit())
+	f.Offset(2, 0)
+	checkDamage(t, f.Commit(), first, second, region.Move(first, 2, 0), region.Move(second, 2, 0))
+	f.Offset(3, 0)
+	f.Offset(2, 0)
+	f.Unclip()
+	f.Attach(grid.New[api.Pixel](2, 2))
+	checkDamage(t, f.Commit())
+	f.Attach(grid.Of(2, 2, []api.Pixel{{}, {0, 0, 0, 1}, {}, {}}))
+	checkDamage(t, f.Commit(), api.Rect{X0: 3, X1: 4, Y1: 1})
+	f.Offset(-9, 0)
+	checkDamage(t, f.Commit(), region.Move(first, 2, 0), region.Move(second, 2, 0))
+	checkDamage(t, c.Destroy(g))
+	g = laid(c, 0, 3, 1)
+	g.Offset(9, 1)
+	checkDamage(t, g.Commit(), api.Rect{Y0: 1, X1: 3, Y1: 2})
+	checkDamage(t, c.Destroy(f), api.Rect{Y0: 1, X1: 3, Y1: 2})
+}
+
+// A picture stays as it was, whatever happens to the surfaces.
+func TestPicture(t *testing.T) {
+	c := New(2, 1)
+	before := c.Picture()
+	f := laid(c, api.Top, 1, 1)
+	f.Attach(grid.Of(1, 1, []api.Pixel{{7, 0, 0, 255}}))
+	f.Commit()
+	between := c.Picture()
+	f.Attach(grid.Of(1, 1, []api.Pixel{{8, 0, 0, 255}}))
+	f.Commit()
+	c.Destroy(f)
+	for _, w := range []struct {
+		p    Picture
+		x    int
+		want api.Pixel
+		laid int
+	}{
+		{before, 0, api.Pixel{0, 0, 0, 255}, 0}, {between, 0, api.Pixel{7, 0, 0, 255}, 1},
+		{between, 1, api.Pixel{0, 0, 0, 255}, 0}, {c.Picture(), 0, api.Pixel{0, 0, 0, 255}, 0},
+	} {
+		if p, n := w.p.At(w.x, 0); p != w.want || n != w.laid {
+			t.Errorf("at %d it is %v, %d, want %v, %d", w.x, p, n, w.want, w.laid)
+		}
 	}
 }

@@ -2,6 +2,7 @@ package scene
 
 import (
 	"pane/api"
+	"pane/grid"
 	"pane/region"
 )
 
@@ -32,13 +33,19 @@ func (f *Surface) view() api.View {
 	return api.View{Surface: f.number, X: s.x, Y: s.y, W: w, H: h, Seen: region.Meet(s.open, whole)}
 }
 
-// views adds to a list what is seen of the surface and, in front of it, of all that is on it.
-func (f *Surface) views(l []api.View) []api.View {
+// layer is a surface of which something is seen, and its pixels.
+type layer struct {
+	view   api.View
+	pixels grid.Grid[api.Pixel]
+}
+
+// layers adds to a list the surface and, in front of it, all that is on it, as far as something is seen of them.
+func (f *Surface) layers(l []layer) []layer {
 	if v := f.view(); region.HasPoints(v.Seen) {
-		l = append(l, v)
+		l = append(l, layer{view: v, pixels: f.now.pixels})
 	}
 	for _, g := range f.on {
-		l = g.views(l)
+		l = g.layers(l)
 	}
 	return l
 }

@@ -63,25 +63,28 @@ func (f *Surface) Stack(sibling *Surface, above bool) {
 	f.stack = stacking{asked: true, sibling: sibling.number, above: above}
 }
 
-// Commit makes all that was asked for be.
-func (f *Surface) Commit() {
+// Commit makes all that was asked for be, and tells the damage.
+func (f *Surface) Commit() []api.Rect {
+	was, pixels, seen := f.outline(), f.now.pixels, f.seenParts()
 	f.now = f.next
-	if f.stack.asked {
-		f.restack(f.stack.sibling, f.stack.above)
+	f.restack()
+	if f.outline() != was {
+		return append(seen, f.seenParts()...)
 	}
-	f.stack = stacking{}
+	return []api.Rect{f.otherPixels(pixels)}
 }
 
-// restack puts it next to a sibling, if that one is still there.
-func (f *Surface) restack(sibling int, above bool) {
-	p := f.parent
-	if p.find(sibling) < 0 {
+// restack puts it next to the sibling that was asked for, if that one is still there.
+func (f *Surface) restack() {
+	p, s := f.parent, f.stack
+	f.stack = stacking{}
+	if !s.asked || p.find(s.sibling) < 0 {
 		return
 	}
 	at := p.find(f.number)
 	p.on = slices.Delete(p.on, at, at+1)
-	to := p.find(sibling)
-	if above {
+	to := p.find(s.sibling)
+	if s.above {
 		to++
 	}
 	p.on = slices.Insert(p.on, to, f)
