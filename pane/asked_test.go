@@ -157,6 +157,8 @@ func TestOffsetFar(t *testing.T) {
 // refuse is what has something wrong: with a surface that there is, and which has the number 0.
 func refuse(s *pane.Screen) map[string][2]api.Errno {
 	const side, off, far = api.MaxSide, api.MaxOffset, api.MaxFar
+	many := make([]api.Rect, api.MaxRects+1)
+	badMany := append(rects(rect(1, 0, 0, 0)), many...)
 	bad := filled(2, 2, grey)
 	bad[3] = api.Pixel{0, 0, 2, 1}
 	badFirst := filled(2, 2, grey)
@@ -188,6 +190,18 @@ func refuse(s *pane.Screen) map[string][2]api.Errno {
 		"Clip, far right":          {s.Clip(0, rect(0, 0, far+1, 1)), api.ErrRect},
 		"Clip, far up":             {s.Clip(0, rect(0, -far-1, 1, 1)), api.ErrRect},
 		"Clip, greatest":           {s.Clip(0, rect(math.MinInt, math.MinInt, math.MaxInt, math.MaxInt)), api.ErrRect},
+		"Opaque, many":             {s.Opaque(0, many), api.ErrMany},
+		"Opaque, many and wrong":   {s.Opaque(0, badMany), api.ErrMany},
+		"Opaque, X turned":         {s.Opaque(0, rects(rect(1, 0, 0, 1))), api.ErrRect},
+		"Opaque, Y turned":         {s.Opaque(0, rects(rect(0, 1, 1, 0))), api.ErrRect},
+		"Opaque, far left":         {s.Opaque(0, rects(rect(-far-1, 0, 1, 1))), api.ErrRect},
+		"Opaque, far right":        {s.Opaque(0, rects(rect(0, 0, far+1, 1))), api.ErrRect},
+		"Opaque, far up":           {s.Opaque(0, rects(rect(0, -far-1, 1, 1))), api.ErrRect},
+		"Opaque, far down":         {s.Opaque(0, rects(rect(0, 0, 1, far+1))), api.ErrRect},
+		"Opaque, no points, far":   {s.Opaque(0, rects(rect(far+1, 0, far+1, 0))), api.ErrRect},
+		"Opaque, last is wrong":    {s.Opaque(0, rects(rect(0, 0, 1, 1), rect(0, 0, 2, 2), rect(2, 0, 1, 1))), api.ErrRect},
+		"Opaque, first is wrong":   {s.Opaque(0, badMany[:api.MaxRects]), api.ErrRect},
+		"Opaque, greatest":         {s.Opaque(0, rects(rect(math.MinInt, math.MinInt, math.MaxInt, math.MaxInt))), api.ErrRect},
 		"Stack, itself above":      {s.Stack(0, 0, true), api.ErrSibling},
 		"Stack, itself below":      {s.Stack(0, 0, false), api.ErrSibling},
 		"Stack, its child":         {s.Stack(0, 2, true), api.ErrSibling},
@@ -215,6 +229,8 @@ func family(t *testing.T) *pane.Screen {
 	fine(t, "Stack", s.Stack(0, 1, true))
 	fine(t, "Clip", s.Clip(1, rect(0, 0, 2, 2)))
 	fine(t, "Offset", s.Offset(2, 1, 1))
+	fine(t, "Opaque", s.Opaque(0, rects(rect(0, 0, 1, 1))))
+	fine(t, "Opaque", s.Opaque(1, rects(rect(1, 1, 9, 9), rect(0, 0, 1, 2))))
 	return s
 }
 

@@ -58,7 +58,7 @@ func refusal(when ...any) api.Errno {
 
 // pixels draws so many that may be, of few kinds, so that many are alike.
 func (p *pair) pixels(n int) []api.Pixel {
-	kinds := []api.Pixel{{}, {1, 2, 3, 3}, {200, 0, 7, 255}, {0, 90, 100, 128}, {0, 0, 0, 255}, {254, 253, 0, 254}}
+	kinds := []api.Pixel{{}, {1, 2, 3, 3}, {200, 0, 7, 255}, {0, 90, 100, 128}, {0, 0, 0, 255}, {254, 253, 0, 254}, {1, 255, 2, 255}, {30, 20, 10, 255}}
 	l := make([]api.Pixel, n)
 	for i := range l {
 		l[i] = kinds[p.r.Intn(len(kinds))]
@@ -123,6 +123,27 @@ func (p *pair) unclip(id int) (api.Errno, api.Errno) {
 		f.asked["clip"] = func() { f.clip = nil }
 	}
 	return p.s.Unclip(id), want
+}
+
+// opaque draws few rectangles mostly, and sometimes as many as there may be, or one more.
+func (p *pair) opaque(id int) (api.Errno, api.Errno) {
+	f, n := p.m.there[id], p.r.Intn(4)
+	if p.r.Intn(10) == 0 {
+		n = api.MaxRects + p.r.Intn(2)
+	}
+	var l []api.Rect
+	for range n {
+		l = append(l, p.rect())
+		if p.r.Intn(3) > 0 {
+			l[len(l)-1] = rect(p.r.Intn(4)-1, p.r.Intn(4)-1, 3+p.r.Intn(3), 3+p.r.Intn(3))
+		}
+	}
+	bad := slices.ContainsFunc(l, func(q api.Rect) bool { return !rectMayBe(q) })
+	want := refusal(f == nil, api.ErrSurface, len(l) > 20, api.ErrMany, bad, api.ErrRect)
+	if want == api.OK {
+		f.asked["opaque"] = func() { f.hint = l }
+	}
+	return p.s.Opaque(id, slices.Clone(l)), want
 }
 
 func (p *pair) stack(id int) (api.Errno, api.Errno) {
@@ -222,7 +243,7 @@ func (p *pair) checkBuffers(t *testing.T) {
 func (p *pair) step(t *testing.T) bool {
 	t.Helper()
 	id := p.id()
-	calls := []func(int) (api.Errno, api.Errno){p.attach, p.offset, p.clip, p.unclip, p.stack, p.stack, p.commit, p.commit, p.commit, p.commit}
+	calls := []func(int) (api.Errno, api.Errno){p.attach, p.opaque, p.offset, p.clip, p.unclip, p.stack, p.stack, p.commit, p.commit, p.commit, p.commit}
 	var got, want api.Errno
 	switch n := p.r.Intn(len(calls) * 12); {
 	case n < 10:

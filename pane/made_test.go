@@ -12,7 +12,8 @@ func checkGone(t *testing.T, s *pane.Screen, l ...int) {
 	for _, id := range l {
 		for i, e := range []api.Errno{
 			s.Destroy(id), s.Attach(id, 0, 0, nil), s.Attach(id, -1, 99, filled(1, 1, api.Pixel{1})), s.Offset(id, 0, 0), s.Offset(id, 9999, 0),
-			s.Clip(id, rect(0, 0, 1, 1)), s.Clip(id, rect(1, 0, 0, 0)), s.Unclip(id), s.Stack(id, 0, true), s.Stack(0, id, false),
+			s.Clip(id, rect(0, 0, 1, 1)), s.Clip(id, rect(1, 0, 0, 0)), s.Unclip(id),
+			s.Opaque(id, nil), s.Opaque(id, make([]api.Rect, api.MaxRects+1)), s.Opaque(id, rects(rect(1, 0, 0, 0))), s.Stack(id, 0, true), s.Stack(0, id, false),
 			s.Stack(id, id, true), s.Commit(id),
 		} {
 			if e != api.ErrSurface {

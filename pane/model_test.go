@@ -11,6 +11,8 @@ type thing struct {
 	parent, w, h, x, y int
 	pixels             []api.Pixel
 	clip               *api.Rect
+	hint               []api.Rect
+	kept               map[point]bool // of its buffer
 	asked              map[string]func()
 }
 
@@ -195,6 +197,16 @@ func (m *model) damage(l []point) {
 	}
 }
 
+// keep asks each pixel whether it is one of the kept hint.
+func (f *thing) keep() {
+	f.kept = map[point]bool{}
+	for k, p := range f.pixels {
+		if x, y := k%f.w, k/f.w; p[3] == 255 && has(f.hint, x, y) {
+			f.kept[point{x, y}] = true
+		}
+	}
+}
+
 func (m *model) commit(id int) {
 	f := m.there[id]
 	frame, seen, pixels := m.frame(id), m.seenOf(id), f.pixels
@@ -202,6 +214,7 @@ func (m *model) commit(id int) {
 		do()
 	}
 	clear(f.asked)
+	f.keep()
 	if m.frame(id) != frame {
 		m.damage(seen)
 		m.damage(m.seenOf(id))
@@ -218,7 +231,8 @@ func (m *model) commit(id int) {
 	}
 }
 
-// picture gives the pixel at a point, and how many were laid for it.
+// picture gives the pixel at a point, made of all that is there, and how many have to be laid for it: with one that
+// hides the count begins anew.
 func (m *model) picture(c point) (api.Pixel, int) {
 	out, laid := [4]int{0, 0, 0, 255}, 0
 	for _, id := range m.row {
@@ -230,6 +244,9 @@ func (m *model) picture(c point) (api.Pixel, int) {
 		p := f.pixels[(c[1]-y)*f.w+c[0]-x]
 		for i := range out {
 			out[i] = int(p[i]) + (out[i]*(255-int(p[3]))+127)/255
+		}
+		if f.kept[point{c[0] - x, c[1] - y}] {
+			laid = 0
 		}
 		laid++
 	}

@@ -121,7 +121,17 @@ func (s *Screen) Unclip(id int) api.Errno {
 }
 
 // Opaque says where a surface hides what is below it (P7).
-func (s *Screen) Opaque(id int, l []api.Rect) api.Errno { return api.OK }
+func (s *Screen) Opaque(id int, l []api.Rect) api.Errno {
+	f := s.scene.Surface(id)
+	if f == nil {
+		return api.ErrSurface
+	}
+	if e := checkRects(l); e != api.OK {
+		return e
+	}
+	f.Opaque(region.Of(l))
+	return api.OK
+}
 
 // Stack puts a surface directly above a sibling, or below it (P7).
 func (s *Screen) Stack(id int, sibling int, above bool) api.Errno {

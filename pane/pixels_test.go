@@ -109,7 +109,7 @@ func TestRepaintOfPixelsThatAreNotSeen(t *testing.T) {
 	checkLook(t, s, 0, 1, "000813", "000000", "000000", "000000", "000000")
 }
 
-// What lies behind another surface is seen, as the document has it: it is damaged, and laid.
+// What lies behind another surface is seen, as the document has it: it is damaged, and without a hint it is laid.
 func TestRepaintOfPixelsBehindOthers(t *testing.T) {
 	s := clean(t)
 	layOf(t, s, api.Top, 0, 2, 1, 0, 0, shade(1))

@@ -18,6 +18,11 @@ func MayBe(p api.Pixel) bool {
 	return max(p[0], p[1], p[2]) <= p[alpha]
 }
 
+// Solid tells whether a pixel lets nothing through: laid over any other one, it is itself.
+func Solid(p api.Pixel) bool {
+	return p[alpha] == full
+}
+
 // Over gives s over d. Both may be; so no sum leaves a byte.
 func Over(s api.Pixel, d api.Pixel) api.Pixel {
 	through := full - int(s[alpha])

@@ -48,6 +48,16 @@ func TestMayBe(t *testing.T) {
 	}
 }
 
+// A pixel that is solid is itself over anything, and no other one is.
+func TestSolid(t *testing.T) {
+	for a := range 256 {
+		p, white, black := api.Pixel{0, uint8(a / 2), uint8(a), uint8(a)}, api.Pixel{255, 255, 255, 255}, api.Pixel{0, 0, 0, 255}
+		if Solid(p) != (a == 255) || Solid(p) != (Over(p, white) == p && Over(p, black) == p) {
+			t.Errorf("Solid(%v) = %v", p, Solid(p))
+		}
+	}
+}
+
 func TestBlack(t *testing.T) {
 	if p := Black(); p != (api.Pixel{0, 0, 0, 255}) || !MayBe(p) {
 		t.Errorf("Black is %v", p)

@@ -126,6 +126,82 @@ func TestDamage(t *testing.T) {
 	checkDamage(t, c.Destroy(f), api.Rect{Y0: 1, X1: 3, Y1: 2})
 }
 
+// marks gives the kept hint as rows of signs.
+func marks(f *Surface) string {
+	out := ""
+	for y := range f.kept.Height() {
+		for x := range f.kept.Width() {
+			if f.kept.At(x, y) {
+				out += "x"
+			} else {
+				out += "."
+			}
+		}
+		out += "/"
+	}
+	return out
+}
+
+func checkMarks(t *testing.T, f *Surface, want string) {
+	t.Helper()
+	if m := marks(f); m != want {
+		t.Errorf("kept is %s, want %s", m, want)
+	}
+}
+
+func TestKeptHint(t *testing.T) {
+	c := New(4, 3)
+	f := c.Surface(c.Make(c.Parent(api.Top)))
+	checkMarks(t, f, "")
+	solid, half := api.Pixel{1, 2, 3, 255}, api.Pixel{0, 0, 0, 254}
+	f.Attach(grid.Of(3, 2, []api.Pixel{solid, solid, half, half, solid, solid}))
+	f.Commit()
+	checkMarks(t, f, ".../.../")
+	f.Opaque(region.Of([]api.Rect{{X0: -3, Y0: -3, X1: 30, Y1: 1}, {X0: 2, Y0: 0, X1: 3, Y1: 9}}))
+	checkMarks(t, f, ".../.../")
+	f.Commit()
+	checkMarks(t, f, "xx./..x/")
+	f.Attach(grid.Of(4, 1, []api.Pixel{solid, half, solid, solid}))
+	checkMarks(t, f, "xx./..x/")
+	f.Commit()
+	checkMarks(t, f, "x.xx/")
+	f.Attach(grid.New[api.Pixel](0, 5))
+	f.Commit()
+	checkMarks(t, f, "/////")
+	f.Attach(grid.Of(1, 2, []api.Pixel{solid, solid}))
+	f.Opaque(region.Of([]api.Rect{{X1: 1, Y0: 1, Y1: 2}}))
+	f.Commit()
+	checkMarks(t, f, "./x/")
+	f.Opaque(region.Region{})
+	f.Commit()
+	checkMarks(t, f, "././")
+}
+
+// What is hidden is not laid; and a picture keeps the hints that were.
+func TestPictureOfWhatHides(t *testing.T) {
+	c := New(2, 1)
+	solid := api.Pixel{7, 0, 0, 255}
+	for range 3 {
+		laid(c, api.Top, 2, 1).Attach(grid.Of(2, 1, []api.Pixel{solid, solid}))
+	}
+	f := c.Surface(1)
+	f.Opaque(region.Of([]api.Rect{{X1: 1, Y1: 1}}))
+	for id := range 3 {
+		c.Surface(id).Commit()
+	}
+	hidden := c.Picture()
+	f.Opaque(region.Region{})
+	f.Commit()
+	for _, w := range []struct {
+		p       Picture
+		x, laid int
+	}{{hidden, 0, 2}, {hidden, 1, 3}, {c.Picture(), 0, 3}, {c.Picture(), 1, 3}} {
+		if p, n := w.p.At(w.x, 0); p != solid || n != w.laid {
+			t.Errorf("at %d it is %v, %d, want %v, %d", w.x, p, n, solid, w.laid)
+		}
+	}
+}
+
 // A picture stays as it was, whatever happens to the surfaces.
 func TestPicture(t *testing.T) {
 	c := New(2, 1)

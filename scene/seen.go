@@ -33,16 +33,17 @@ func (f *Surface) view() api.View {
 	return api.View{Surface: f.number, X: s.x, Y: s.y, W: w, H: h, Seen: region.Meet(s.open, whole)}
 }
 
-// layer is a surface of which something is seen, and its pixels.
+// layer is a surface of which something is seen, with its pixels and its kept hint.
 type layer struct {
 	view   api.View
 	pixels grid.Grid[api.Pixel]
+	kept   grid.Grid[bool]
 }
 
 // layers adds to a list the surface and, in front of it, all that is on it, as far as something is seen of them.
 func (f *Surface) layers(l []layer) []layer {
 	if v := f.view(); region.HasPoints(v.Seen) {
-		l = append(l, layer{view: v, pixels: f.now.pixels})
+		l = append(l, layer{view: v, pixels: f.now.pixels, kept: f.kept})
 	}
 	for _, g := range f.on {
 		l = g.layers(l)

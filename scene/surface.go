@@ -5,6 +5,7 @@ import (
 
 	"pane/api"
 	"pane/grid"
+	"pane/region"
 )
 
 // Surface is one of the surfaces, with all that lie on it, from the back to the front.
@@ -12,9 +13,10 @@ type Surface struct {
 	number int
 	parent *Surface // nil at the ground alone
 	on     []*Surface
-	now    look     // what it has
-	next   look     // what it has from its next Commit on
-	stack  stacking // where it is put at its next Commit
+	now    look            // what it has
+	next   look            // what it has from its next Commit on
+	stack  stacking        // where it is put at its next Commit
+	kept   grid.Grid[bool] // the kept hint: a mark for each pixel; never written into behind the Commit that made it
 }
 
 // look is what a surface has of its own.
@@ -23,6 +25,7 @@ type look struct {
 	x, y    int
 	clip    api.Rect
 	clipped bool
+	hint    region.Region // as asked for: it may reach beyond the buffer, which another buffer may fill
 }
 
 // stacking is next to which sibling a surface was asked to lie, if it was. The sibling is kept as its number, since
@@ -53,6 +56,11 @@ func (f *Surface) Unclip() {
 	f.next.clip, f.next.clipped = api.Rect{}, false
 }
 
+// Opaque asks for a hint.
+func (f *Surface) Opaque(hint region.Region) {
+	f.next.hint = hint
+}
+
 // Beside tells whether another surface is a sibling of this one.
 func (f *Surface) Beside(other *Surface) bool {
 	return f != other && f.parent == other.parent
@@ -67,6 +75,7 @@ func (f *Surface) Stack(sibling *Surface, above bool) {
 func (f *Surface) Commit() []api.Rect {
 	was, pixels, seen := f.outline(), f.now.pixels, f.seenParts()
 	f.now = f.next
+	f.kept = f.now.keptHint()
 	f.restack()
 	if f.outline() != was {
 		return append(seen, f.seenParts()...)
